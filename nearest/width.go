@@ -1,6 +1,9 @@
 package nearest
 
-import "quipu/api"
+import (
+	"quipu/api"
+	"quipu/decform"
+)
 
 // width is what is unlike for the two widths: how many bits the fields m and x have, and the power of 2 that m counts where x is 0.
 type width struct {
@@ -14,7 +17,7 @@ func binary32() width { return width{fieldBits: 23, exponentBits: 8, least: -149
 
 // float answers the bits of the float of a Dec, by its class and sign.
 func (w width) float(d api.Dec) (uint64, api.Errno) {
-	if !may(d) {
+	if !decform.May(d) {
 		return 0, api.ErrNearestForm
 	}
 	var bits uint64
