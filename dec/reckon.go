@@ -4,6 +4,7 @@ import (
 	"strings"
 
 	"quipu/api"
+	"quipu/decform"
 	"quipu/nat"
 	"quipu/whole"
 )
@@ -32,7 +33,7 @@ func sum(a, b api.Dec) (api.Dec, api.Errno) {
 	exp := min(a.Exp, b.Exp)
 	total := whole.Add(counted(a, exp), counted(b, exp))
 	// A whole 0 has no sign: it is -0 here, if both have one.
-	return finite(total.Neg || a.Neg && b.Neg, whole.Text(total.Mag), exp)
+	return decform.Finite(total.Neg || a.Neg && b.Neg, whole.Text(total.Mag), exp)
 }
 
 // counted answers how many times 10^exp d is; exp is not above its own. What may be is, with all noughts between the two exponents, shorter than what whole.Parse refuses.
@@ -65,5 +66,5 @@ func isZero(d api.Dec) bool {
 
 func product(neg bool, a, b api.Dec) (api.Dec, api.Errno) {
 	mag := nat.Mul(counted(a, a.Exp).Mag, counted(b, b.Exp).Mag)
-	return finite(neg, whole.Text(mag), a.Exp+b.Exp)
+	return decform.Finite(neg, whole.Text(mag), a.Exp+b.Exp)
 }

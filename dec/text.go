@@ -5,6 +5,7 @@ import (
 	"strings"
 
 	"quipu/api"
+	"quipu/decform"
 )
 
 const (
@@ -27,7 +28,7 @@ func Parse(s string) (api.Dec, api.Errno) {
 	if !ok {
 		return api.Dec{}, api.ErrDecText
 	}
-	d, err := finite(n.neg, n.ahead+n.behind, n.power-len(n.behind))
+	d, err := decform.Finite(n.neg, n.ahead+n.behind, n.power-len(n.behind))
 	// The few digits that are left shall not keep a text of any length in memory.
 	d.Digits = strings.Clone(d.Digits)
 	return d, err

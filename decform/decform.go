@@ -1,4 +1,4 @@
-// Package decform knows the one form of each decimal number. It stands apart from the layers because both the nearest float and decimal arithmetic refuse what is not in that form.
+// Package decform knows the one form of each decimal number. It stands apart from the layers because the nearest float, decimal arithmetic and rounding all refuse what is not in that form.
 package decform
 
 import (
@@ -20,8 +20,16 @@ func May(d api.Dec) bool {
 	return false
 }
 
-// Of answers the finite Dec of digits, noughts ahead and behind too, times 10^exp. It may be, or may not, by how many digits are left and by its place alone.
-func Of(neg bool, digits string, exp int) api.Dec {
+// Finite answers the Dec of digits, noughts ahead and behind too, times 10^exp; ErrDecRange, if too many digits are left, or if it is too far out.
+func Finite(neg bool, digits string, exp int) (api.Dec, api.Errno) {
+	d := trimmed(neg, digits, exp)
+	if !May(d) {
+		return api.Dec{}, api.ErrDecRange
+	}
+	return d, api.OK
+}
+
+func trimmed(neg bool, digits string, exp int) api.Dec {
 	short := strings.TrimRight(digits, "0")
 	exp += len(digits) - len(short)
 	short = strings.TrimLeft(short, "0")

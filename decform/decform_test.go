@@ -8,7 +8,7 @@ import (
 	"quipu/decform"
 )
 
-func TestOf(t *testing.T) {
+func TestFinite(t *testing.T) {
 	for _, x := range []struct {
 		digits string
 		exp    int
@@ -26,15 +26,15 @@ func TestOf(t *testing.T) {
 	} {
 		for _, neg := range []bool{false, true} {
 			x.want.Neg = neg
-			if got := decform.Of(neg, x.digits, x.exp); got != x.want {
-				t.Errorf("%q, %d: %v, not %v", x.digits, x.exp, got, x.want)
+			if got, err := decform.Finite(neg, x.digits, x.exp); got != x.want || err != api.OK {
+				t.Errorf("%q, %d: %v, error %d, not %v", x.digits, x.exp, got, err, x.want)
 			}
 		}
 	}
 }
 
-// What Of answers may be, unless there are too many digits, or they are too far out.
-func TestMayOfOf(t *testing.T) {
+// What is answered may be; it is refused, if there are too many digits, or they are too far out.
+func TestFiniteRefuses(t *testing.T) {
 	noughts := strings.Repeat("0", 3000)
 	for _, x := range []struct {
 		digits string
@@ -50,8 +50,9 @@ func TestMayOfOf(t *testing.T) {
 		{strings.Repeat("1", 1000) + noughts, -3000, true},
 		{strings.Repeat("1", 1001) + noughts, -3000, false},
 	} {
-		if got := decform.May(decform.Of(true, x.digits, x.exp)); got != x.want {
-			t.Errorf("%d digits, %d: %t", len(x.digits), x.exp, got)
+		d, err := decform.Finite(true, x.digits, x.exp)
+		if x.want && (err != api.OK || !decform.May(d)) || !x.want && (err != api.ErrDecRange || d != api.Dec{}) {
+			t.Errorf("%d digits, %d: error %d", len(x.digits), x.exp, err)
 		}
 	}
 }
