@@ -109,39 +109,33 @@ func countedRound(n int) []counted {
 	return []counted{{0, 0}, {1, 1 % n}, {n - 1, n - 1}, {n, 0}, {n + 1, 1 % n}, {2*n - 1, n - 1}, {2 * n, 0}, {1000 * n, 0}, {1<<32*n + n - 1, n - 1}, {math.MaxInt, math.MaxInt % n}}
 }
 
-// How many bytes are told is counted round, so they are never all.
-func TestReadShort(t *testing.T) {
+// expectChange reads with a fault of a kind, of each Byte and Bit, and holds what is told against want; the read behind it tells what the disk has.
+func expectChange(t *testing.T, kind int, want func(asked string, place, bit int) string) {
+	t.Helper()
 	image := someBytes(source(), 100)
 	for n := 1; n <= 64; n++ {
 		for _, x := range countedRound(n) {
 			for bit := range 8 {
-				p := newPair(t, image, faultAt(0, api.FaultShort, x.place, bit))
-				if told, err := p.read(t, 7, n); told != image[7:][:x.want] || err != api.OK {
-					t.Errorf("%d of %d: %s, error %d", x.place, n, short(told), err)
+				p := newPair(t, image, faultAt(0, kind, x.place, bit))
+				asked := image[7:][:n]
+				if told, err := p.read(t, 7, n); told != want(asked, x.want, bit) || err != api.OK {
+					t.Errorf("Byte %d of %d, bit %d: %s, error %d", x.place, n, bit, short(told), err)
 				}
-				if told, _ := p.read(t, 7, n); told != image[7:][:n] {
-					t.Errorf("behind a read that told less: %s", short(told))
+				if told, err := p.read(t, 7, n); told != asked || err != api.OK {
+					t.Errorf("the read behind: %s, error %d", short(told), err)
 				}
 			}
 		}
 	}
 }
 
+// How many bytes are told is counted round, so they are never all.
+func TestReadShort(t *testing.T) {
+	expectChange(t, api.FaultShort, func(asked string, place, _ int) string { return asked[:place] })
+}
+
 func TestReadFlip(t *testing.T) {
-	image := someBytes(source(), 100)
-	for n := 1; n <= 64; n++ {
-		for _, x := range countedRound(n) {
-			for bit := range 8 {
-				p := newPair(t, image, faultAt(0, api.FaultFlip, x.place, bit))
-				if told, err := p.read(t, 7, n); told != turned(image[7:][:n], x.want, bit) || err != api.OK {
-					t.Errorf("%d of %d, bit %d: %s, error %d", x.place, n, bit, short(told), err)
-				}
-				if told, _ := p.read(t, 7, n); told != image[7:][:n] {
-					t.Errorf("the disk was changed: %s", short(told))
-				}
-			}
-		}
-	}
+	expectChange(t, api.FaultFlip, turned)
 }
 
 // A bit that is 1 is turned to 0, one that is 0 to 1: of every byte there is.
